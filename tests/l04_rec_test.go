@@ -446,12 +446,9 @@ func checkKnown(t *testing.T, k impl.Known, want bool) {
 	if got := impl.KnownOk(k); got != want || isKnown(k) != want {
 		t.Errorf("KnownOk(%+v) is %v", k, got)
 	}
+	checkRecsOf(t, k)
 	if want {
-		checkRecsOf(t, k)
 		return
-	}
-	if l := impl.RecsOf(k); len(l) != 0 {
-		t.Errorf("RecsOf(%+v) = %+v", k, l)
 	}
 	for _, r := range []impl.Rec{prep(60000, shortConf), commit(1), commit(60000), epoch(60000, 1), prep(1, "bad"), {}} {
 		if x, ok := impl.Apply(k, r); x != k || ok {
@@ -699,23 +696,29 @@ func from(l []impl.Rec) (impl.Known, bool) {
 	return k, true
 }
 
-func checkRecsOf(t *testing.T, k impl.Known) {
-	t.Helper()
-	var want []impl.Rec
+// recsOf is a second definition of RecsOf.
+func recsOf(k impl.Known) []impl.Rec {
+	var l []impl.Rec
 	if k.Gen != 0 {
-		want = append(want, prep(k.Gen, k.Text), commit(k.Gen))
+		l = append(l, prep(k.Gen, k.Text), commit(k.Gen))
 	}
 	if k.PGen != 0 {
-		want = append(want, prep(k.PGen, k.PText))
+		l = append(l, prep(k.PGen, k.PText))
 	}
 	if k.Epoch != 0 {
-		want = append(want, epoch(k.Epoch, k.Owner))
+		l = append(l, epoch(k.Epoch, k.Owner))
 	}
+	return l
+}
+
+func checkRecsOf(t *testing.T, k impl.Known) {
+	t.Helper()
+	want := recsOf(k)
 	l := impl.RecsOf(k)
 	if !slices.Equal(l, want) {
 		t.Errorf("RecsOf(%+v) = %+v, want %+v", k, l, want)
 	}
-	if x, ok := from(l); x != k || !ok {
+	if x, ok := from(l); isKnown(k) && (x != k || !ok) {
 		t.Errorf("the records of %+v produce %+v, %v", k, x, ok)
 	}
 	for i := range l[:cap(l)] {
@@ -748,17 +751,51 @@ func TestRecsOf(t *testing.T) {
 	}
 }
 
+// Only Gen, PGen and Epoch decide which records there are: neither the texts, nor the owner, nor the validity of the state.
 func TestRecsOfAnInvalidState(t *testing.T) {
-	bad := []impl.Known{
-		{Gen: 1}, {Gen: -1}, {Gen: 60001, Text: shortConf}, {Gen: 1, Text: "bad"}, {Text: shortConf}, {PGen: 1}, {PText: shortConf}, {Owner: 1},
-		{Epoch: 1, Owner: 2}, {Epoch: -1}, {Epoch: 60001}, {Gen: 2, Text: shortConf, PGen: 2, PText: shortConf}, {Gen: 2, Text: shortConf, PGen: 1, PText: shortConf},
-		{Gen: 1, Text: shortConf, Owner: 1}, {Gen: 1, Text: shortConf, PText: shortConf}, {Epoch: 1, PGen: 1, PText: "bad"},
-	}
-	for _, k := range bad {
-		if l := impl.RecsOf(k); len(l) != 0 {
-			t.Errorf("RecsOf(%+v) = %+v", k, l)
+	for _, x := range []struct {
+		k    impl.Known
+		want []impl.Rec
+	}{
+		// A number without a text, or with one that is not a configuration.
+		{impl.Known{Gen: 1}, []impl.Rec{prep(1, ""), commit(1)}},
+		{impl.Known{Gen: 1, Text: "bad"}, []impl.Rec{prep(1, "bad"), commit(1)}},
+		{impl.Known{Gen: 60000, Epoch: 3, Owner: 1}, []impl.Rec{prep(60000, ""), commit(60000), epoch(3, 1)}},
+		{impl.Known{PGen: 1}, []impl.Rec{prep(1, "")}},
+		{impl.Known{Epoch: 1, PGen: 1, PText: "\xff"}, []impl.Rec{prep(1, "\xff"), epoch(1, 0)}},
+		// A text or an owner without a number.
+		{impl.Known{Text: shortConf}, nil},
+		{impl.Known{PText: shortConf}, nil},
+		{impl.Known{Owner: 1}, nil},
+		{impl.Known{Text: "bad", PText: "bad", Owner: -1}, nil},
+		{impl.Known{Text: shortConf, Epoch: 5}, []impl.Rec{epoch(5, 0)}},
+		{impl.Known{PText: shortConf, Epoch: 5, Owner: 1}, []impl.Rec{epoch(5, 1)}},
+		{impl.Known{Gen: 1, Text: shortConf, Owner: 1}, []impl.Rec{prep(1, shortConf), commit(1)}},
+		{impl.Known{Gen: 1, Text: shortConf, PText: shortConf}, []impl.Rec{prep(1, shortConf), commit(1)}},
+		{impl.Known{PGen: 2, PText: mainConf, Owner: -1}, []impl.Rec{prep(2, mainConf)}},
+		// An owner that there is not.
+		{impl.Known{Epoch: 1, Owner: 2}, []impl.Rec{epoch(1, 2)}},
+		{impl.Known{Epoch: 1, Owner: -1}, []impl.Rec{epoch(1, -1)}},
+		// Numbers out of range.
+		{impl.Known{Gen: -1}, []impl.Rec{prep(-1, ""), commit(-1)}},
+		{impl.Known{Gen: -1, Epoch: 4, Owner: 1}, []impl.Rec{prep(-1, ""), commit(-1), epoch(4, 1)}},
+		{impl.Known{Gen: 60001, Text: shortConf}, []impl.Rec{prep(60001, shortConf), commit(60001)}},
+		{impl.Known{PGen: -1, PText: shortConf}, []impl.Rec{prep(-1, shortConf)}},
+		{impl.Known{PGen: 60001, PText: shortConf}, []impl.Rec{prep(60001, shortConf)}},
+		{impl.Known{Epoch: -1}, []impl.Rec{epoch(-1, 0)}},
+		{impl.Known{Epoch: 60001}, []impl.Rec{epoch(60001, 0)}},
+		{
+			impl.Known{Gen: math.MinInt64, PGen: math.MaxInt64, Epoch: math.MinInt64, Owner: math.MaxInt64},
+			[]impl.Rec{prep(math.MinInt64, ""), commit(math.MinInt64), prep(math.MaxInt64, ""), epoch(math.MinInt64, math.MaxInt64)},
+		},
+		// A prepared generation that does not exceed the committed one.
+		{impl.Known{Gen: 2, Text: shortConf, PGen: 2, PText: mainConf}, []impl.Rec{prep(2, shortConf), commit(2), prep(2, mainConf)}},
+		{impl.Known{Gen: 2, Text: shortConf, PGen: 1, PText: mainConf}, []impl.Rec{prep(2, shortConf), commit(2), prep(1, mainConf)}},
+	} {
+		if l := impl.RecsOf(x.k); !slices.Equal(l, x.want) {
+			t.Errorf("RecsOf(%+v) = %+v, want %+v", x.k, l, x.want)
 		}
-		checkKnown(t, k, false)
+		checkKnown(t, x.k, false)
 	}
 }
 
