@@ -749,6 +749,36 @@ func TestAddRecRefusesWhenDown(t *testing.T) {
 	}
 }
 
+// A record that is refused leaves no trace: the state is the one before it, or the one with the record at which power had failed.
+func TestRefusedRecsAreNotKnown(t *testing.T) {
+	for i, k := range fullKnowns() {
+		for _, d := range []impl.Disk{genOf(1+i%2, 0, recsOf(k)), fullDisk(1+i%2, k)} {
+			first := nextRecs(k)[i%3]
+			with, _ := nextKnown(k, first)
+			d.Fuse = operations(d) - 1
+			down, _ := impl.AddRec(d, first)
+			d.Fuse = -1
+			for _, r := range append(nextRecs(k), badRecs(k)...) {
+				x, ok := impl.AddRec(down, r)
+				if ok || textOf(x) != textOf(down) || len(x.Cache) != 1 {
+					t.Errorf("down, %+v: %v, %s", r, ok, textOf(x))
+				}
+				for kept, y := range falls(x) {
+					j, open := impl.OpenJour(y)
+					if !open || kept == 0 && j.K != k || kept == 1 && j.K != with {
+						t.Errorf("down, %+v, kept %d: %+v", r, kept, j)
+					}
+					checkFurther(t, "down before", y, r)
+				}
+			}
+			for _, r := range badRecs(k) {
+				x, _ := impl.AddRec(d, r)
+				checkFurther(t, "refused before", impl.FallDisk(x, 0), first)
+			}
+		}
+	}
+}
+
 func TestAddRecRefusesWithoutAJournal(t *testing.T) {
 	d := genOf(1, 0, epochs(4))
 	bad := badJournals(d)
