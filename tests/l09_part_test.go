@@ -338,7 +338,7 @@ func TestAskerOkOfEachField(t *testing.T) {
 		{Sock: 1}, {Sock: 9999}, named(1), {Sock: 1, Db: "a", St: 1}, {Sock: 1, Db: "abcdefgh", St: 4, Line: 1, Lease: 1},
 		wait(0, 0, ""), wait(65535, 0, ""), wait(0, 100000, ""), wait(0, 0, " ~"), wait(0, 0, strings.Repeat("q", 100)),
 		leased(3, 1, 1), leased(3, 9999, 1), leased(3, 1, 65536), leased(4, 1, 1), leased(4, 9999, 1), leased(4, 1, math.MaxInt),
-		// A client and its connection with one number are excluded by the list of a proxy only.
+		// The chapter does not exclude that a client and its connection have one number.
 		leased(3, 5, 1),
 	}
 	for _, a := range good {
