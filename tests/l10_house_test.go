@@ -799,7 +799,7 @@ func TestHouseOkOfPairsAtTheEnds(t *testing.T) {
 	}
 }
 
-// TestHouseOkOfManyPairs has six pairs in each order of the connections. The chapter does not tie their generation, nor their database, to Conf.
+// TestHouseOkOfManyPairs has six pairs in each order of the connections. The chapter does not tie their generation or their database to those of the proxy, nor does it ask for different leases.
 func TestHouseOkOfManyPairs(t *testing.T) {
 	for _, st := range []int{impl.HsServe, impl.HsFreeze, impl.HsTake} {
 		eachOrder([]int{1, 2, 3, 4, 5, 6}, func(order []int) {
@@ -811,6 +811,10 @@ func TestHouseOkOfManyPairs(t *testing.T) {
 			for n := 1; n <= 6; n++ {
 				i := slices.Index(order, n)
 				h.Ls = append(h.Ls, impl.Line{Sock: 10 + n, Db: "gone", Gen: 60000, St: impl.LnBusy + i%2, Asker: i + 1, Lease: 20 + i})
+			}
+			checkHouseOk(t, h, true)
+			for i := range 6 {
+				h.As[i].Lease, h.Ls[i].Lease = 20, 20
 			}
 			checkHouseOk(t, h, true)
 			h.As[order[0]-1].Lease = 99
